@@ -1,0 +1,1 @@
+"""How spans lie: which ways there may be between a few spans of time."""
