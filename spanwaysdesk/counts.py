@@ -1,4 +1,4 @@
-"""How many lists of spans there are, no two of them alike.
+"""How many lists of spans there are, no two of them alike, and what ways are found in them.
 
 The ways between each two spans settle which of any two ends comes first, so lists are alike
 just if all their ways are the same: choices of ways are counted in place of lists. A choice
@@ -10,17 +10,30 @@ from spanwaysdesk.ways import LAST_WAY, ways_in
 
 
 def how_many_lists(count, sets, following):
-    if count == 2:
-        return len(ways_in(sets[(0, 1)]))
     total = 0
     for way in ways_in(sets[(0, 1)]):
-        thirds = ways_to_one_more(way, 2, sets, following)
-        if count == 3:
-            total += len(thirds)
-        else:
-            fourths = ways_to_one_more(way, 3, sets, following)
-            total += how_many_between(thirds, fourths, sets[(2, 3)], following)
+        total += how_many_with(way, count, sets, following)
     return total
+
+
+# A set may hold ways that no list has: the other spans can rule them out.
+def ways_in_lists(count, sets, following):
+    found = 0
+    for way in ways_in(sets[(0, 1)]):
+        if how_many_with(way, count, sets, following) > 0:
+            found = found | (1 << way)
+    return found
+
+
+# Only lists in which span 0 lies to span 1 in the given way are counted.
+def how_many_with(way, count, sets, following):
+    if count == 2:
+        return 1
+    thirds = ways_to_one_more(way, 2, sets, following)
+    if count == 3:
+        return len(thirds)
+    fourths = ways_to_one_more(way, 3, sets, following)
+    return how_many_between(thirds, fourths, sets[(2, 3)], following)
 
 
 # How spans 0 and 1, of which 0 lies to 1 in the given way, may lie to another span.

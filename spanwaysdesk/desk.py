@@ -7,9 +7,13 @@ TELL = 1
 FREE = 2
 MANY = 3
 PICTURE = 4
+MAY = 5
+THROUGH = 6
+TURNED = 7
+LIES = 8
 
 # How many numbers stand behind the number of each call.
-GIVEN = (1, 3, 2, 0, 0)
+GIVEN = (1, 3, 2, 0, 0, 2, 2, 1, 4)
 
 
 def answer_of(spans, call, given):
@@ -21,7 +25,15 @@ def answer_of(spans, call, given):
         return spans.free(given[0], given[1])
     if call == MANY:
         return spans.many()
-    return spans.picture()
+    if call == PICTURE:
+        return spans.picture()
+    if call == MAY:
+        return spans.may(given[0], given[1])
+    if call == THROUGH:
+        return spans.through(given[0], given[1])
+    if call == TURNED:
+        return spans.turned(given[0])
+    return spans.lies((given[0], given[1]), (given[2], given[3]))
 
 
 def answers(calls):

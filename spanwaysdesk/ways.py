@@ -77,3 +77,11 @@ def ways_one_behind_another():
             for z in range(len(rows)):
                 follow[y_row[z]] = follow[y_row[z]] | (1 << x_row[z])
     return table
+
+
+def ways_through(first, second, following):
+    found = 0
+    for one in ways_in(first):
+        for other in ways_in(second):
+            found = found | following[one][other]
+    return found

@@ -5,10 +5,11 @@ import itertools
 
 from spanwaysdesk.desk import answers
 
-BEGIN, TELL, FREE, MANY, PICTURE = range(5)
+BEGIN, TELL, FREE, MANY, PICTURE, MAY, THROUGH, TURNED, LIES = range(9)
 ALL_WAYS = 8191
 GREATEST = 4294967295
-GIVEN = {BEGIN: 1, TELL: 3, FREE: 2, MANY: 0, PICTURE: 0}
+# The ends of the range that lies is asked in.
+LEAST_END, GREATEST_END = -2147483648, 2147483647
 
 # The document's words for the ways 0 to 6, of a span a-b to a span c-d.
 WORDS = (
@@ -55,8 +56,26 @@ def plain_lists(n):
 
 
 def lists_that_fit(n, sets):
-    told = [sets[pair] for pair in pairs(n)]
+    return fitting(n, tuple(frozenset(sets[pair]) for pair in pairs(n)))
+
+
+@functools.lru_cache(maxsize=16)
+def fitting(n, told):
     return [chosen for chosen, ways in plain_lists(n) if all(w in s for w, s in zip(ways, told))]
+
+
+@functools.lru_cache(maxsize=None)
+def followed(one, other):
+    """The ways of x to z in all lists of three spans in which x lies to y in way one, and y to z in way other."""
+    return {way(x, z) for (x, y, z), ways in plain_lists(3) if way(x, y) == one and way(y, z) == other}
+
+
+def through(first, second):
+    return bits(*[k for one in ways_of(first) for other in ways_of(second) for k in followed(one, other)])
+
+
+def turned(number):
+    return bits(*[way(y, x) for (x, y), ways in plain_lists(2) if number >> way(x, y) & 1])
 
 
 def said_of(spans):
@@ -105,8 +124,26 @@ class Model:
             return [-6]
         return [self.n] + [number for span in fitting[0] for number in span]
 
+    def may(self, i, j):
+        if self.wrong(i, j):
+            return [-22]
+        return [bits(*{way(chosen[i], chosen[j]) for chosen in lists_that_fit(self.n, self.sets)})]
+
+    def through(self, first, second):
+        return [-22] if first >= 8192 or second >= 8192 else [through(first, second)]
+
+    def turned(self, number):
+        return [-22] if number >= 8192 else [turned(number)]
+
+    def lies(self, a, b, c, d):
+        return [way((a, b), (c, d))] if a < b and c < d else [-22]
+
     def answer(self, call):
-        return (self.begin, self.tell, self.free, self.many, self.picture)[call[0]](*call[1:])
+        asked = (
+            self.begin, self.tell, self.free, self.many, self.picture,
+            self.may, self.through, self.turned, self.lies,
+        )
+        return asked[call[0]](*call[1:])
 
 
 def flat(calls):
